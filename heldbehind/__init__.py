@@ -1,0 +1,1 @@
+"""Things done one after the other, each behind its holder."""
