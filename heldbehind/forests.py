@@ -87,6 +87,15 @@ def walk(forest):
     return _walk_through(_held_lists(forest), _without_holder(forest))
 
 
+def forest_among(forest, things):
+    """The forest of some things, renamed by their indexes in the list or tuple of them.
+
+    A thing whose holder is not among them has no holder in it.
+    """
+    name_of = {thing: name for name, thing in enumerate(things)}
+    return tuple([name_of.get(forest[thing]) for thing in things])
+
+
 def _without_holder(forest):
     return [thing for thing, holder in enumerate(forest) if holder is None]
 

@@ -1,8 +1,13 @@
 """What the tests count themselves, in ways of their own."""
 
 from fractions import Fraction
-from itertools import product
-from math import comb
+from functools import lru_cache
+from itertools import combinations, product
+from math import comb, prod
+from random import Random
+
+EXAMPLE = (None, 0, 0, 1, None)
+ONE_THING = (None,)
 
 
 def all_sequences(forest):
@@ -96,6 +101,142 @@ def mixed_forest(many):
     return tuple(holders)
 
 
+def is_above(forest, thing, other):
+    at = forest[other]
+    while at is not None and at != thing:
+        at = forest[at]
+    return at is not None
+
+
+def walk_by_calls(forest, holder=None):
+    found = []
+    for thing in range(len(forest)):
+        if forest[thing] == holder and (forest[thing] is None) == (holder is None):
+            found += [thing] + walk_by_calls(forest, thing)
+    return found
+
+
+def numbers_in(forest, sequence):
+    walked = walk_by_calls(forest)
+    return [walked.index(thing) for thing in sequence]
+
+
+def pairs_turned(forest, sequence):
+    """The tuples (greater, lesser) of the numbers of the turned pairs."""
+    return [(first, behind) for first, behind in combinations(numbers_in(forest, sequence), 2) if first > behind]
+
+
+def drops_of(forest, sequence):
+    """The places that are drops."""
+    numbers = numbers_in(forest, sequence)
+    return [place for place in range(1, len(numbers)) if numbers[place] < numbers[place - 1]]
+
+
+def tally(worths):
+    """How often 0, 1, 2, .. are among these integers, up to the greatest one."""
+    return [worths.count(worth) for worth in range(max(worths) + 1)]
+
+
+def random_forest(many, seed):
+    """A forest in which the holders, and the order of the indexes, are drawn."""
+    draw = Random(seed)
+    forest = tuple(draw.choice([None, None] + list(range(thing))) if thing else None for thing in range(many))
+    return renamed(forest, draw.sample(range(many), many))
+
+
+def random_sequence(forest, seed):
+    draw = Random(seed)
+    found = []
+    while len(found) < len(forest):
+        found.append(draw.choice([thing for thing, holder in enumerate(forest)
+                                  if thing not in found and (holder is None or holder in found)]))
+    return found
+
+
+def drawn_indexes(many, seed):
+    """The first, the last, and some other indexes of so many, ascending."""
+    draw = Random(seed)
+    some = [draw.randrange(many) for _ in range(6)]
+    return sorted({0, 1 % many, many // 2, max(0, many - 2), many - 1, *some})
+
+
+def merges_of(forest):
+    """The tuples (size of both, size of the second) of the shuffles that make a sequence out of trees."""
+    found = []
+
+    def merged(tops):
+        size = 0
+        for thing in tops:
+            other_size = 1 + merged([one for one, holder in enumerate(forest) if holder == thing])
+            size += other_size
+            found.append((size, other_size))
+        return size
+
+    merged([thing for thing, holder in enumerate(forest) if holder is None])
+    return found
+
+
+def count_by_shuffling(forest):
+    return prod(comb(size, other_size) for size, other_size in merges_of(forest))
+
+
+def turned_by_shuffling(forest):
+    """The numbers of sequences by turned pairs: those of the shuffles, multiplied."""
+    counts = [1]
+    for size, other_size in merges_of(forest):
+        counts = multiplied(counts, shuffles(size, other_size))
+    return counts
+
+
+def multiplied(counts, other_counts):
+    found = [0] * (len(counts) + len(other_counts) - 1)
+    for at, count in enumerate(counts):
+        for other_at, other_count in enumerate(other_counts):
+            found[at + other_at] += count * other_count
+    return found
+
+
+@lru_cache(maxsize=None)
+def shuffles(size, behind):
+    """How many ways to put so many greater things among lesser ones, by turned pairs."""
+    if behind in (0, size):
+        return (1,)
+    # The last one is a greater one, or it is a lesser one that is turned with all greater ones.
+    last_greater = shuffles(size - 1, behind - 1)
+    last_lesser = (0,) * behind + shuffles(size - 1, behind)
+    many = max(len(last_greater), len(last_lesser))
+    return tuple(sum(row[at] for row in (last_greater, last_lesser) if at < len(row)) for at in range(many))
+
+
+def counts_thing_by_thing(forest):
+    """The numbers of sequences by turned pairs and by drop sum, by what is done and which was the last.
+
+    Only for forests with few ways to be done in part.
+    """
+    walked = walk_by_calls(forest)
+    holders = [None if forest[thing] is None else walked.index(forest[thing]) for thing in walked]
+    many = len(forest)
+
+    @lru_cache(maxsize=None)
+    def behind(done, last):
+        if len(done) == many:
+            return (((0, 0), 1),)
+        found = {}
+        for number, holder in enumerate(holders):
+            if number in done or (holder is not None and holder not in done):
+                continue
+            turned = sum(1 for other in range(number) if other not in done)
+            drop = many - len(done) if last is not None and number < last else 0
+            for (more_turned, more_drops), count in behind(done | {number}, number):
+                key = (turned + more_turned, drop + more_drops)
+                found[key] = found.get(key, 0) + count
+        return tuple(found.items())
+
+    rows = behind(frozenset(), None)
+    return [[sum(count for key, count in rows if key[which] == worth)
+             for worth in range(max(key[which] for key, _ in rows) + 1)] for which in (0, 1)]
+
+
 def place_counts(forest, marked):
     """How many sequences have the marked things at which places, by shuffling.
 
@@ -152,3 +293,12 @@ def _merges(at, key, size, other_at, other_key, other_size):
             for rest, more in _merges(now, key, size, place + 1, other_key[1:], other_size):
                 found.append((((now + place, thing),) + rest, ways * more))
     return found
+
+
+SMALL = [forest for many in range(1, 5) for forest in all_forests(many)]
+# A little larger ones: rows, bushes and things without holders, indexes in any order.
+LARGER = [EXAMPLE, (4, None, 1, 1, 2), (None, 0, 1, None, 3, 4), (5, 5, 0, None, 3, None, 0), (3, 3, 3, None, 1, 1),
+          (None, 0, 1, 1, 0, 4, 4), row(7), one_above_all(6), no_holders(5), (2, 0, None, 1, None, None),
+          (4, None, 1, 1, 2, 4)]
+SIXTY = [make(60) for make in (row, one_above_all, no_holders, mixed_forest)]
+SIXTY += [scattered(mixed_forest(60), 7), scattered(row(60), 31), scattered(one_above_all(60), 11)]

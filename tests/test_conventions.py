@@ -1,15 +1,30 @@
 """Points [1], [2] and [3] for each function: wrong arguments, their order, new lists."""
 
 import unittest
+from copy import deepcopy
+from functools import wraps
 from itertools import product
 
-from heldbehind import errors, forests, shares
-from heldbehind.errors import (HolderError, InvalidForest, InvalidNumber, InvalidPlace, InvalidThing, SameThing)
+from heldbehind import errors, forests, sequences, shares, stages, turned
+from heldbehind.errors import (HolderError, InvalidEnds, InvalidForest, InvalidIndex, InvalidNumber, InvalidPlace,
+                               InvalidSequence, InvalidStages, InvalidThing, NoSequence, SameThing)
 
 FOREST = (None, 0, 0, 1, None)
 RAISED = {"forest": InvalidForest, "thing": InvalidThing, "other": InvalidThing, "many": InvalidNumber,
-          "place": InvalidPlace, "other_place": InvalidPlace}
-GOOD = {"forest": FOREST, "thing": 3, "other": 1, "many": 5, "place": 4, "other_place": 0}
+          "place": InvalidPlace, "other_place": InvalidPlace, "index": InvalidIndex, "sequence": InvalidSequence,
+          "stages": InvalidStages, "ends": InvalidEnds, "turned": InvalidNumber}
+GOOD = {"forest": FOREST, "thing": 3, "other": 1, "many": 5, "place": 4, "other_place": 0, "index": 2,
+        "sequence": [0, 4, 1, 3, 2], "value": [0, 4, 1, 3, 2], "stages": [(0, 4), (1,)], "ends": [3, 2], "turned": 2}
+OTHER_GOOD = {"forest": (1, None, 1, 1, 2), "thing": 4, "other": 1, "many": 5, "place": 4, "other_place": 0, "index": 2,
+              "sequence": [1, 0, 2, 3, 4], "value": [1, 0, 2, 3, 4], "stages": [(1,), (0, 2)], "ends": [4, 3],
+              "turned": 2}
+
+
+@wraps(sequences.sequences)
+def all_of(*values, **named):
+    """All values of the generator, so that its errors are raised."""
+    return list(sequences.sequences(*values, **named))
+
 
 # The functions by module, each with its parameters in their order.
 MODULES = {
@@ -17,15 +32,35 @@ MODULES = {
         "sizes": "forest", "depths": "forest", "firsts": "forest", "walk": "forest",
         "above": "forest thing", "below": "forest thing", "held_by": "forest thing",
     },
+    sequences: {
+        "is_sequence": "forest value", "count_sequences": "forest", "nth_sequence": "forest index",
+        "sequence_index": "forest sequence", "next_sequence": "forest sequence", "sequences": "forest",
+    },
     shares: {
         "place_shares": "forest thing", "place_range": "forest thing", "mean_place": "forest thing",
         "first_share": "forest thing many", "last_share": "forest thing", "ahead_share": "forest thing other",
         "next_to_share": "forest thing other", "places_share": "forest thing place other other_place",
         "mean_distance": "forest thing other", "sure_pairs": "forest",
     },
+    stages: {
+        "stage_fault": "forest stages", "count_with": "forest stages", "nth_with": "forest stages index",
+        "share_with": "forest stages", "next_shares": "forest stages", "last_count": "forest ends",
+    },
+    turned: {
+        "turned_pairs": "forest sequence", "drop_sum": "forest sequence", "turned_counts": "forest",
+        "most_turned": "forest", "nth_by_turned": "forest turned index", "turned_index": "forest sequence",
+    },
 }
-CALLS = [(getattr(module, name), words.split()) for module, rows in MODULES.items() for name, words in rows.items()]
-LISTS = ["sizes", "depths", "firsts", "walk", "above", "below", "held_by", "place_shares", "sure_pairs"]
+CALLS = [(all_of if name == "sequences" else getattr(module, name), words.split())
+         for module, rows in MODULES.items() for name, words in rows.items()]
+LISTS = """sizes depths firsts walk above below held_by place_shares sure_pairs nth_sequence next_sequence sequences
+nth_with next_shares turned_counts nth_by_turned""".split()
+INTEGERS = """count_sequences sequence_index count_with last_count turned_pairs drop_sum most_turned
+turned_index""".split()
+KINDS = {**{name: list for name in LISTS}, **{name: int for name in INTEGERS}, "is_sequence": bool,
+         "stage_fault": type(None)}
+# How many indexes there are with the other arguments of GOOD.
+INDEXES = {"nth_sequence": 15, "nth_with": 4, "nth_by_turned": 3}
 
 NO_INDEX = [None, True, False, -1, -5, 10 ** 99, -10 ** 99, "", "3", b"3", 1.0, [], [3], (), (3,), {}, {3: 3}, {3},
             object(), FOREST]
@@ -33,18 +68,35 @@ NO_FOREST = [None, True, False, 0, 7, "", "- 0 0", b"-", 0.5, [], list(FOREST), 
              object(), (), (0,), (1, 0), (None, 1), (None, 0, 2, 0, 0), (None, 2, 3, 1, 0), (1, 2, 3, 4, 0), (None, -1),
              (None, 0, 0, 1, -1), (None, 0, 0, 1, 5), (None, 0, 0, 1, 10 ** 99), (None, False, 0, 1, None),
              (None, 0, 0, True, None), (None, "0"), (None, 0.0), (None, (0,)), ("-", "0"), [None, 0, 0, 1, None]]
+NO_LIST = [None, True, False, 0, 3, -1, 10 ** 99, "", "0", "01234", "0 > 1", b"\x00\x01", 1.0, (), {}, {0: 1}, {0, 4},
+           range(5), object(), FOREST]
+NO_SEQUENCE = NO_LIST + [(0, 4, 1, 3, 2), [], [0], [0, 4, 1, 3], [0, 4, 1, 3, 2, 2], [0, 4, 1, 3, 2, 5],
+                         [0, 4, 1, 3, 3], [0, 0, 1, 3, 2], [1, 0, 2, 3, 4], [0, 3, 1, 2, 4], [4, 2, 0, 1, 3],
+                         [0, True, 2, 3, 4], [False, 1, 2, 3, 4], [0, 1.0, 2, 3, 4], [0, 1, 2, 3, "4"],
+                         [0, 1, 2, 3, None], [0, 1, 2, 3, 5], [0, 1, 2, 3, -1], [0, 1, 2, 3, 10 ** 99],
+                         [0, 1, 2, 3, [4]], [[0, 1, 2, 3, 4]], [(0, 1, 2, 3, 4)], [0, 1, 2, {}, 4]]
+NO_STAGES = NO_LIST + [((0, 4), (1,)), (0, 4), [[0, 4], [1]], [(0, 4), [1]], [[0], (4,)], [()], [(0,), ()], [(), (0,)],
+                       [(4, 0)], [(0,), (2, 1)], [(0, 0)], [(0, 2, 1)], [(0,), (0,)], [(0, 4), (1, 4)],
+                       [(0,), (1,), (0, 2)], [(5,)], [(0, 5)], [(-1,)], [(-1, 0)], [(10 ** 99,)], [(True,)],
+                       [(False,)], [(0, True)], [(False, 1)], [(0, None)], [(None,)], [("0",)], ["0"], [0], [None],
+                       [0, 4], [(0.0,)], [(0, 1.0)], [{0}], [{0: 4}], [((0,),)], [([0],)], [(0, {})], [range(2)],
+                       [(0, 1, 2, 3, 4, 5)], [(0,), True], [(0, "1")], [(0, object())]]
+NO_ENDS = NO_LIST + [(3, 2), (3,), [3, 3], [3, 2, 3], [5], [3, 5], [-1], [3, -1], [10 ** 99], [True], [False],
+                     [3, True], [0, False], ["3"], [3.0], [None], [(3,)], [[3]], [{}], [3, {3}], [object()],
+                     [0, 1, 2, 3, 4, 5], [0, 1, 2, 3, 4, 0]]
 BAD = {"forest": NO_FOREST, "thing": NO_INDEX + [5, 6], "other": NO_INDEX + [5, 6], "many": NO_INDEX + [6, 7],
-       "place": NO_INDEX + [5, 6], "other_place": NO_INDEX + [5, 6]}
+       "place": NO_INDEX + [5, 6], "other_place": NO_INDEX + [5, 6], "index": NO_INDEX + [15, 16],
+       "turned": NO_INDEX + [7, 8], "sequence": NO_SEQUENCE, "stages": NO_STAGES, "ends": NO_ENDS}
 
 
 def arguments_with(words, changes):
     return [changes.get(word, GOOD[word]) for word in words]
 
 
-class Conventions(unittest.TestCase):
+class Cases(unittest.TestCase):
     def assert_due(self, function, words, values, kind):
         """The error is raised by position, by name, and by both, and it is of no other kind."""
-        for by_position in (len(words), 0, 1):
+        for by_position in range(len(words) + 1):
             named = dict(list(zip(words, values))[by_position:][::-1])
             with self.assertRaises(HolderError) as caught:
                 function(*values[:by_position], **named)
@@ -54,47 +106,85 @@ class Conventions(unittest.TestCase):
             if isinstance(other, type) and other not in (kind, HolderError):
                 self.assertNotIsInstance(caught.exception, other, name)
 
+
+class Arguments(Cases):
     def test_calls_without_an_error(self):
         for function, words in CALLS:
-            values = arguments_with(words, {})
-            answer = function(*values)
-            self.assertEqual(function(**dict(list(zip(words, values))[::-1])), answer)
-            self.assertEqual(function(values[0], **dict(zip(words[1:], values[1:]))), answer)
-            self.assertIs(type(answer), list if function.__name__ in LISTS else tuple)
+            for good in (GOOD, OTHER_GOOD):
+                values = arguments_with(words, good)
+                answer = function(*values)
+                self.assertEqual(function(**dict(list(zip(words, values))[::-1])), answer)
+                self.assertEqual(function(values[0], **dict(zip(words[1:], values[1:]))), answer)
+                self.assertIs(type(answer), KINDS.get(function.__name__, tuple))
+
+    def test_all_functions_are_here(self):
+        self.assertEqual({name for rows in MODULES.values() for words in rows.values() for name in words.split()},
+                         set(GOOD))
+        self.assertEqual([len(rows) for rows in MODULES.values()], [7, 6, 10, 6, 6])
 
     def test_ends_of_the_ranges(self):
+        greatest = {"thing": 4, "other": 4, "place": 4, "other_place": 4, "many": 5}
         for function, words in CALLS:
-            for word in words[1:]:
-                for end in (0, 5 if word == "many" else 4):
+            for word in [word for word in words if word in greatest]:
+                for end in (0, greatest[word]):
                     values = arguments_with(words, {word: end})
                     if word != "other" or end != GOOD["thing"]:
                         function(*values)
 
+    def test_ends_of_the_indexes(self):
+        for function, words in CALLS:
+            if "index" in words:
+                many = INDEXES[function.__name__]
+                for index in range(many):
+                    function(*arguments_with(words, {"index": index}))
+                for index in (-1, many, many + 1):
+                    self.assert_due(function, words, arguments_with(words, {"index": index}), InvalidIndex)
+        words = ["forest", "turned", "index"]
+        for number, many in enumerate([1, 2, 3, 3, 3, 2, 1]):
+            turned.nth_by_turned(FOREST, number, many - 1)
+            self.assert_due(turned.nth_by_turned, words, [FOREST, number, many], InvalidIndex)
+
     def test_one_wrong_argument(self):
         for function, words in CALLS:
-            for word in words:
+            for word in [word for word in words if word != "value"]:
                 for value in BAD[word]:
                     self.assert_due(function, words, arguments_with(words, {word: value}), RAISED[word])
 
+    def test_any_value_is_a_sequence_or_not(self):
+        for value in NO_SEQUENCE:
+            self.assertIs(sequences.is_sequence(FOREST, value), False)
+            self.assertIs(sequences.is_sequence(value=value, forest=FOREST), False)
+
     def test_the_ranges_go_by_the_forest(self):
+        # With two things: the first value that there is not.
+        least_bad = {"thing": 2, "other": 2, "place": 2, "other_place": 2, "many": 3, "index": 1, "turned": 1,
+                     "sequence": [0, 1, 2], "stages": [(0,), (1, 2)], "ends": [2]}
+        good = {"forest": (None, 0), "thing": 0, "other": 1, "place": 0, "other_place": 1, "many": 2, "index": 0,
+                "turned": 0, "sequence": [0, 1], "stages": [(0,), (1,)], "ends": [1], "value": [0, 1]}
         for function, words in CALLS:
-            for word in words[1:]:
-                # With two things: the first index, or number, that there is not.
-                least_bad = 3 if word == "many" else 2
-                changes = {"forest": (None, 0), "thing": 0, "other": 1, "place": 0, "other_place": 1, "many": 2}
-                function(*arguments_with(words, changes))
-                changes[word] = least_bad
-                self.assert_due(function, words, arguments_with(words, changes), RAISED[word])
+            function(*arguments_with(words, good))
+            for word in [word for word in words if word in least_bad]:
+                values = arguments_with(words, {**good, word: least_bad[word]})
+                self.assert_due(function, words, values, RAISED[word])
 
     def test_several_wrong_arguments(self):
         some = {"forest": [FOREST, None, (1, 0), list(FOREST)], "thing": [3, 5, True], "other": [1, -1, "1"],
-                "many": [5, 6, False], "place": [4, 5, None], "other_place": [0, 5, (0,)]}
+                "many": [5, 6, False], "place": [4, 5, None], "other_place": [0, 5, (0,)], "index": [2, -1, 15, "2"],
+                "sequence": [GOOD["sequence"], None, [1, 0, 2, 3, 4]], "stages": [GOOD["stages"], [()], None],
+                "ends": [GOOD["ends"], (3, 2), [3, 3]], "turned": [2, 7, True, None], "value": [GOOD["value"]]}
         for function, words in CALLS:
             for values in product(*[some[word] for word in words]):
                 wrong = [word for word, value in zip(words, values) if value is not some[word][0]]
                 if wrong:
                     self.assert_due(function, words, list(values), RAISED[wrong[0]])
 
+    def test_any_value_comes_behind_the_forest(self):
+        for forest in NO_FOREST:
+            for value in ([], None, [0, 1], FOREST):
+                self.assert_due(sequences.is_sequence, ["forest", "value"], [forest, value], InvalidForest)
+
+
+class Conditions(Cases):
     def test_same_thing(self):
         for function, words in CALLS:
             if "other" in words:
@@ -122,11 +212,29 @@ class Conventions(unittest.TestCase):
                                  ([None, 1, 1], InvalidForest)]:
                 self.assert_due(function, ["forest", "thing", "other"], values, kind)
 
+    def test_no_sequence(self):
+        for faulty in ([(1,)], [(3, 4)], [(0,), (3,)], [(0, 3)], [(1,), (0,)], [(4,), (1, 2, 3), (0,)]):
+            self.assert_due(stages.next_shares, ["forest", "stages"], [FOREST, faulty], NoSequence)
+            # Whatever the index is: this comes ahead of it.
+            for index in [0, 1, 15] + NO_INDEX:
+                self.assert_due(stages.nth_with, ["forest", "stages", "index"], [FOREST, faulty, index], NoSequence)
+            self.assertEqual([stages.count_with(FOREST, faulty), stages.share_with(FOREST, faulty)], [0, (0, 1)])
+
+    def test_no_sequence_comes_behind_the_stages(self):
+        for wrong in ([(1,), ()], [(1,), (1,)], [(3, 1)], [(3, 5)], ((1,),)):
+            self.assert_due(stages.next_shares, ["forest", "stages"], [FOREST, wrong], InvalidStages)
+            for index in (0, -1, None):
+                self.assert_due(stages.nth_with, ["forest", "stages", "index"], [FOREST, wrong, index], InvalidStages)
+                self.assert_due(stages.nth_with, ["forest", "stages", "index"], [None, [(1,)], index], InvalidForest)
+
+
+class Values(Cases):
     def test_returned_lists_are_new(self):
         for function, words in CALLS:
             if function.__name__ in LISTS:
-                for thing in range(5):
-                    values = arguments_with(words, {"thing": thing})
+                for number in range(5):
+                    # With several things and several indexes.
+                    values = arguments_with(words, {"thing": number, "index": number % 3})
                     first = function(*values)
                     kept = list(first)
                     second = function(*values)
@@ -136,29 +244,56 @@ class Conventions(unittest.TestCase):
                     self.assertEqual(second, kept)
                     self.assertEqual(function(*values), kept)
 
+    def test_returned_lists_are_no_arguments(self):
+        for stages_of_all in ([(0, 4), (1,)], [(0,), (1,), (2,), (3,), (4,)], []):
+            given = list(stages_of_all)
+            found = stages.nth_with(FOREST, given, 0)
+            given.clear()
+            self.assertEqual(len(found), 5)
+        given = [0, 4, 1, 3, 2]
+        found = sequences.next_sequence(FOREST, given)
+        given.clear()
+        self.assertEqual(found, [0, 4, 2, 1, 3])
+
     def test_arguments_do_not_change(self):
         for function, words in CALLS:
-            forest = tuple(list(FOREST))
-            function(*arguments_with(words, {"forest": forest}))
-            self.assertEqual(forest, FOREST)
+            values = deepcopy(arguments_with(words, {}))
+            kept = deepcopy(values)
+            answer = deepcopy(function(*values))
+            self.assertEqual(values, kept)
+            # What is done to an argument behind the call does not count either.
+            for value in values:
+                if isinstance(value, list):
+                    value.clear()
+            self.assertEqual(function(*kept), answer)
+
+    def test_wrong_arguments_do_not_change(self):
         wrong = [None, 0, [0]]
         self.assertIs(forests.is_forest(wrong), False)
         with self.assertRaises(InvalidForest):
             forests.walk(wrong)
         self.assertEqual(wrong, [None, 0, [0]])
+        for function, words in CALLS:
+            for word in [word for word in words if word in ("sequence", "stages", "ends")]:
+                for value in [value for value in BAD[word] if isinstance(value, list)]:
+                    kept = list(value)
+                    with self.assertRaises(RAISED[word]):
+                        function(*arguments_with(words, {word: value}))
+                    self.assertEqual(value, kept)
 
     def test_results_stay_the_same(self):
         for function, words in CALLS:
             values = arguments_with(words, {})
             before = function(*values)
             for other, other_words in CALLS:
-                other(*arguments_with(other_words, {"forest": (1, None, 1, 1, 2), "thing": 4}))
+                other(*arguments_with(other_words, OTHER_GOOD))
             self.assertEqual(function(*values), before)
 
     def test_each_is_defined_where_the_interface_lists_it(self):
         for module, rows in MODULES.items():
             for name in list(rows) + (["is_forest"] if module is forests else []):
                 self.assertEqual(getattr(module, name).__module__, module.__name__)
+                self.assertEqual(getattr(module, name).__name__, name)
 
 
 if __name__ == "__main__":

@@ -2,30 +2,12 @@
 
 import unittest
 
-from counting import (all_forests, all_sequences, all_tuples, comes_out, mixed_forest, no_holders,
-                      one_above_all, row, scattered)
+from counting import (EXAMPLE, LARGER, SMALL, all_sequences, all_tuples, comes_out, is_above, mixed_forest,
+                      no_holders, one_above_all, row, scattered, walk_by_calls)
 from heldbehind.forests import above, below, depths, firsts, held_by, is_forest, sizes, walk
 
-EXAMPLE = (None, 0, 0, 1, None)
-SMALL = [forest for many in range(1, 5) for forest in all_forests(many)]
-SMALL += [EXAMPLE, (4, None, 1, 1, 2, 4), (5, 5, 0, None, 3, None, 0)]
 LARGE = [make(many) for make in (row, one_above_all, no_holders, mixed_forest) for many in (30, 60)]
 LARGE += [scattered(mixed_forest(60), 7), scattered(row(60), 31), scattered(one_above_all(59), 17)]
-
-
-def is_above(forest, thing, other):
-    at = forest[other]
-    while at is not None and at != thing:
-        at = forest[at]
-    return at is not None
-
-
-def walk_by_calls(forest, holder=None):
-    found = []
-    for thing in range(len(forest)):
-        if forest[thing] == holder and (forest[thing] is None) == (holder is None):
-            found += [thing] + walk_by_calls(forest, thing)
-    return found
 
 
 class IsForest(unittest.TestCase):
@@ -89,7 +71,7 @@ class Things(unittest.TestCase):
         self.assertEqual([above(forest, 2), below(forest, 5), held_by(forest, 5)], [[0, 5], [0, 1, 2, 6], [0, 1]])
 
     def test_by_the_definitions(self):
-        for forest in SMALL + LARGE:
+        for forest in SMALL + LARGER + LARGE:
             things = range(len(forest))
             rows = {v: [w for w in things if is_above(forest, v, w)] for v in things}
             tops = {v: [w for w in things if v in rows[w]] for v in things}
@@ -102,11 +84,11 @@ class Things(unittest.TestCase):
                 self.assertEqual(held_by(forest, v), [w for w in things if above(forest, w)[:1] == [v]])
 
     def test_walk_by_calls(self):
-        for forest in SMALL + LARGE:
+        for forest in SMALL + LARGER + LARGE:
             self.assertEqual(walk(forest), walk_by_calls(forest))
 
     def test_walk_is_a_sequence(self):
-        for forest in SMALL:
+        for forest in SMALL + LARGER:
             self.assertIn(walk(forest), all_sequences(forest))
 
     def test_many_more_things(self):

@@ -5,20 +5,12 @@ from fractions import Fraction
 from itertools import permutations
 from math import factorial, gcd, prod
 
-from counting import (all_forests, all_sequences, fractions, mean_of, mixed_forest, no_holders, one_above_all,
-                      pair, place_fractions, row, scattered, share_of)
+from counting import (EXAMPLE, LARGER, ONE_THING, SIXTY, SMALL, all_sequences, fractions, mean_of, mixed_forest,
+                      no_holders, one_above_all, pair, place_fractions, row, scattered, share_of)
 from heldbehind.forests import above, below, depths, sizes
 from heldbehind.shares import (ahead_share, first_share, last_share, mean_distance, mean_place, next_to_share,
                                place_range, place_shares, places_share, sure_pairs)
 
-EXAMPLE = (None, 0, 0, 1, None)
-ONE_THING = (None,)
-SMALL = [forest for many in range(1, 5) for forest in all_forests(many)]
-# A little larger ones: rows, bushes and things without holders, indexes in any order.
-LARGER = [EXAMPLE, (4, None, 1, 1, 2), (None, 0, 1, None, 3, 4), (5, 5, 0, None, 3, None, 0), (3, 3, 3, None, 1, 1),
-          (None, 0, 1, 1, 0, 4, 4), row(7), one_above_all(6), no_holders(5), (2, 0, None, 1, None, None)]
-SIXTY = [make(60) for make in (row, one_above_all, no_holders, mixed_forest)]
-SIXTY += [scattered(mixed_forest(60), 7), scattered(row(60), 31), scattered(one_above_all(60), 11)]
 THIRTY = [make(30) for make in (row, one_above_all, no_holders, mixed_forest)]
 THIRTY += [scattered(mixed_forest(30), 7), scattered(row(30), 11), (None,) * 2 + tuple(range(28)),
            (None,) + tuple(range(14)) + (0,) + tuple(range(15, 29))]
