@@ -213,7 +213,7 @@ class ByTurned(unittest.TestCase):
             self.assertEqual(turned_counts(forest)[1], len(there))
             self.assertEqual([nth_by_turned(forest, 1, index) for index in range(len(there))], sorted(there))
 
-    def test_orders_of_seven_things(self):
+    def test_orders_of_six_things(self):
         there = [list(order) for order in permutations(range(6))]
         for turned in range(16):
             rows = [one for one in there if len(pairs_turned(no_holders(6), one)) == turned]
