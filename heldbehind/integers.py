@@ -1,4 +1,4 @@
-"""What counts as an integer or an index, and tuples (top, bottom) in lowest terms."""
+"""What counts as an integer, an index or an order of them, and tuples (top, bottom) in lowest terms."""
 
 from math import gcd
 
@@ -8,9 +8,24 @@ def is_integer(value):
     return isinstance(value, int) and not isinstance(value, bool)
 
 
+def is_between(value, least, greatest):
+    """Whether any value is an integer from least to greatest."""
+    return is_integer(value) and least <= value <= greatest
+
+
 def is_index(value, many):
     """Whether any value is an integer from 0 to many - 1."""
-    return is_integer(value) and 0 <= value < many
+    return is_between(value, 0, many - 1)
+
+
+def are_different(values, many):
+    """Whether the items of a list are different integers from 0 to many - 1."""
+    return all([is_index(value, many) for value in values]) and len(set(values)) == len(values)
+
+
+def is_order(value):
+    """Whether any value is a non-empty list of all integers from 0 to its length - 1."""
+    return isinstance(value, list) and len(value) > 0 and are_different(value, len(value))
 
 
 def lowest(top, bottom):

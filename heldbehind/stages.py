@@ -2,7 +2,7 @@
 
 from heldbehind.errors import InvalidEnds, InvalidIndex, InvalidStages, NoSequence
 from heldbehind.forests import check_forest, forest_among, sizes
-from heldbehind.integers import is_index, lowest
+from heldbehind.integers import are_different, is_index, lowest
 from heldbehind.left import can_be_next
 from heldbehind.sequences import count_sequences, nth_sequence
 
@@ -13,11 +13,6 @@ def are_stages(value, many):
         return False
     things = [thing for stage in value for thing in stage]
     return are_different(things, many) and all([_ascends(stage) for stage in value])
-
-
-def are_different(things, many):
-    """Whether the items of a list are different things from 0 to many - 1."""
-    return all([is_index(thing, many) for thing in things]) and len(set(things)) == len(things)
 
 
 def stage_fault(forest, stages):

@@ -208,6 +208,36 @@ def shuffles(size, behind):
     return tuple(sum(row[at] for row in (last_greater, last_lesser) if at < len(row)) for at in range(many))
 
 
+def sizes_by_hand(forest):
+    return [1 + sum(is_above(forest, thing, other) for other in range(len(forest))) for thing in range(len(forest))]
+
+
+def with_minus_ones(forest):
+    """The holders with -1 in place of None, so that forests compare."""
+    return [-1 if holder is None else holder for holder in forest]
+
+
+def walked_forests(many):
+    """All forests whose walk is 0, 1, 2, .., ascending: each thing is held by one on the way to the one ahead."""
+    found = [(None,)]
+    for _ in range(many - 1):
+        longer = []
+        for forest in found:
+            holder = len(forest) - 1
+            longer.append(forest + (holder,))
+            while holder is not None:
+                holder = forest[holder]
+                longer.append(forest + (holder,))
+        found = longer
+    return sorted(found, key=with_minus_ones)
+
+
+def shape_code(forest, holder=None):
+    """A text that is the same for just the forests of one shape."""
+    held = [thing for thing in range(len(forest)) if forest[thing] is holder or forest[thing] == holder]
+    return "".join(sorted("(" + shape_code(forest, thing) + ")" for thing in held))
+
+
 def counts_thing_by_thing(forest):
     """The numbers of sequences by turned pairs and by drop sum, by what is done and which was the last.
 

@@ -5,19 +5,26 @@ from copy import deepcopy
 from functools import wraps
 from itertools import product
 
-from heldbehind import errors, forests, sequences, shares, stages, turned
-from heldbehind.errors import (HolderError, InvalidEnds, InvalidForest, InvalidIndex, InvalidNumber, InvalidPlace,
-                               InvalidSequence, InvalidStages, InvalidThing, NoSequence, SameThing)
+from heldbehind import alike, changes, errors, forests, sequences, shares, stages, told, turned
+from heldbehind.errors import (HolderError, InvalidCounts, InvalidEnds, InvalidForest, InvalidIndex, InvalidNumber,
+                               InvalidPlace, InvalidSequence, InvalidSizes, InvalidStages, InvalidThing, InvalidTold,
+                               NoForest, NoSequence, OnlyThing, SameThing)
 
 FOREST = (None, 0, 0, 1, None)
+# Where a parameter is not called by the kind of its values.
+CALLED = {"other_forest": "other", "many_things": "many"}
 RAISED = {"forest": InvalidForest, "thing": InvalidThing, "other": InvalidThing, "many": InvalidNumber,
           "place": InvalidPlace, "other_place": InvalidPlace, "index": InvalidIndex, "sequence": InvalidSequence,
-          "stages": InvalidStages, "ends": InvalidEnds, "turned": InvalidNumber}
+          "stages": InvalidStages, "ends": InvalidEnds, "turned": InvalidNumber, "other_forest": InvalidForest,
+          "counts": InvalidCounts, "many_things": InvalidNumber, "sizes": InvalidSizes, "told": InvalidTold}
 GOOD = {"forest": FOREST, "thing": 3, "other": 1, "many": 5, "place": 4, "other_place": 0, "index": 2,
-        "sequence": [0, 4, 1, 3, 2], "value": [0, 4, 1, 3, 2], "stages": [(0, 4), (1,)], "ends": [3, 2], "turned": 2}
+        "sequence": [0, 4, 1, 3, 2], "value": [0, 4, 1, 3, 2], "stages": [(0, 4), (1,)], "ends": [3, 2], "turned": 2,
+        "other_forest": (None, None, 1, 1, 3), "counts": [1, 2, 3, 3, 3, 2, 1], "many_things": 5,
+        "sizes": [1, 1, 1, 2, 3], "told": [[0, 1, 2], [0, 2, 1]]}
 OTHER_GOOD = {"forest": (1, None, 1, 1, 2), "thing": 4, "other": 1, "many": 5, "place": 4, "other_place": 0, "index": 2,
               "sequence": [1, 0, 2, 3, 4], "value": [1, 0, 2, 3, 4], "stages": [(1,), (0, 2)], "ends": [4, 3],
-              "turned": 2}
+              "turned": 2, "other_forest": (None, 0), "counts": [1, 2, 2, 1], "many_things": 3,
+              "sizes": [2, 3, 1, 1, 1], "told": [[1, 0, 2], [1, 0, 2]]}
 
 
 @wraps(sequences.sequences)
@@ -50,17 +57,33 @@ MODULES = {
         "turned_pairs": "forest sequence", "drop_sum": "forest sequence", "turned_counts": "forest",
         "most_turned": "forest", "nth_by_turned": "forest turned index", "turned_index": "forest sequence",
     },
+    alike: {
+        "are_alike": "forest other_forest", "parting_size": "forest other_forest", "same_number": "forest other_forest",
+        "sizes_back": "counts many_things", "plain": "forest", "shapes_with": "sizes", "count_shapes": "sizes",
+        "forest_with": "sizes",
+    },
+    told: {
+        "always_ahead": "told", "count_forests": "told", "nth_forest": "told index", "forest_of": "told",
+        "nearest_forest": "told",
+    },
+    changes: {
+        "beside": "forest other_forest", "grafted": "forest thing other_forest", "part": "forest thing",
+        "without": "forest thing", "told_ahead": "forest thing other",
+    },
 }
 CALLS = [(all_of if name == "sequences" else getattr(module, name), words.split())
          for module, rows in MODULES.items() for name, words in rows.items()]
 LISTS = """sizes depths firsts walk above below held_by place_shares sure_pairs nth_sequence next_sequence sequences
-nth_with next_shares turned_counts nth_by_turned""".split()
+nth_with next_shares turned_counts nth_by_turned sizes_back shapes_with always_ahead""".split()
 INTEGERS = """count_sequences sequence_index count_with last_count turned_pairs drop_sum most_turned
-turned_index""".split()
+turned_index count_shapes count_forests""".split()
 KINDS = {**{name: list for name in LISTS}, **{name: int for name in INTEGERS}, "is_sequence": bool,
-         "stage_fault": type(None)}
+         "stage_fault": type(None), "are_alike": bool, "same_number": bool}
+# What is returned for GOOD and for OTHER_GOOD where None is among it.
+SOME_NONE = {"parting_size": [None, 1], "told_ahead": [None, None]}
+LIST_WORDS = ["sequence", "stages", "ends", "counts", "sizes", "told"]
 # How many indexes there are with the other arguments of GOOD.
-INDEXES = {"nth_sequence": 15, "nth_with": 4, "nth_by_turned": 3}
+INDEXES = {"nth_sequence": 15, "nth_with": 4, "nth_by_turned": 3, "nth_forest": 4}
 
 NO_INDEX = [None, True, False, -1, -5, 10 ** 99, -10 ** 99, "", "3", b"3", 1.0, [], [3], (), (3,), {}, {3: 3}, {3},
             object(), FOREST]
@@ -84,20 +107,38 @@ NO_STAGES = NO_LIST + [((0, 4), (1,)), (0, 4), [[0, 4], [1]], [(0, 4), [1]], [[0
 NO_ENDS = NO_LIST + [(3, 2), (3,), [3, 3], [3, 2, 3], [5], [3, 5], [-1], [3, -1], [10 ** 99], [True], [False],
                      [3, True], [0, False], ["3"], [3.0], [None], [(3,)], [[3]], [{}], [3, {3}], [object()],
                      [0, 1, 2, 3, 4, 5], [0, 1, 2, 3, 4, 0]]
-BAD = {"forest": NO_FOREST, "thing": NO_INDEX + [5, 6], "other": NO_INDEX + [5, 6], "many": NO_INDEX + [6, 7],
-       "place": NO_INDEX + [5, 6], "other_place": NO_INDEX + [5, 6], "index": NO_INDEX + [15, 16],
+NO_COUNTS = NO_LIST + [[], [None], [True], [False], [1, True], [1, 2, 3, 3, 3, 2, False], [1.0], ["1"], [1, "2"], [[1]],
+                       [(1,)], [1, None], [{}], [1, 2, 3, 3, 3, 2, [1]], (1, 2, 3, 3, 3, 2, 1), [object()]]
+NO_SIZES = NO_COUNTS + [[0], [2], [-1], [1, 3], [0, 1], [1, 1, 1, 2, 6], [1, 1, 1, 0, 3], [10 ** 99], [1, 10 ** 99],
+                        [1, 1, 1, 2, -3], (1, 1, 1, 2, 3)]
+NO_TOLD = NO_LIST + [([0, 1, 2], [0, 2, 1]), [(0, 1, 2), (0, 2, 1)], [], [[]], [[], []], [()], [[0], []], [[0, 1], [0]],
+                     [[0, 1, 2], [0, 1]], [[0, 1, 2], [0, 1, 2, 3]], [[0, 0]], [[0, 1, 1]], [[0, 2]], [[1, 2, 3]],
+                     [[-1, 0, 1]], [[0, 1, 2], [0, 1, 3]], [[0, 1, 10 ** 99]], [[True, 0]], [[False, 1]],
+                     [[0, True, 2]], [[0, 1.0, 2]], [[0, "1", 2]], [[0, None]], [["0"]], ["0"], [0, 1, 2], [None],
+                     [[0, 1, 2], None],
+                     [[0, 1, 2], (0, 2, 1)], [[0, 1, 2], True], [[0, 1, 2], {0: 0, 1: 1, 2: 2}], [[[0]]], [[(0,)]],
+                     [{0, 1}], [range(3)], [[0, {}, 2]]]
+BAD = {"forest": NO_FOREST, "other_forest": NO_FOREST, "counts": NO_COUNTS, "many_things": NO_INDEX + [0, 61, 62, 300],
+       "sizes": NO_SIZES, "told": NO_TOLD, "thing": NO_INDEX + [5, 6], "other": NO_INDEX + [5, 6],
+       "many": NO_INDEX + [6, 7], "place": NO_INDEX + [5, 6], "other_place": NO_INDEX + [5, 6],
+       "index": NO_INDEX + [15, 16],
        "turned": NO_INDEX + [7, 8], "sequence": NO_SEQUENCE, "stages": NO_STAGES, "ends": NO_ENDS}
 
 
-def arguments_with(words, changes):
-    return [changes.get(word, GOOD[word]) for word in words]
+def arguments_with(words, changed):
+    return [changed.get(word, GOOD[word]) for word in words]
+
+
+def named_by(words, values):
+    """The arguments by the names of their parameters, the last one first."""
+    return dict([(CALLED.get(word, word), value) for word, value in zip(words, values)][::-1])
 
 
 class Cases(unittest.TestCase):
     def assert_due(self, function, words, values, kind):
         """The error is raised by position, by name, and by both, and it is of no other kind."""
         for by_position in range(len(words) + 1):
-            named = dict(list(zip(words, values))[by_position:][::-1])
+            named = named_by(words[by_position:], values[by_position:])
             with self.assertRaises(HolderError) as caught:
                 function(*values[:by_position], **named)
             self.assertIs(type(caught.exception), kind, (function.__name__, values))
@@ -113,22 +154,31 @@ class Arguments(Cases):
             for good in (GOOD, OTHER_GOOD):
                 values = arguments_with(words, good)
                 answer = function(*values)
-                self.assertEqual(function(**dict(list(zip(words, values))[::-1])), answer)
-                self.assertEqual(function(values[0], **dict(zip(words[1:], values[1:]))), answer)
-                self.assertIs(type(answer), KINDS.get(function.__name__, tuple))
+                self.assertEqual(function(**named_by(words, values)), answer)
+                self.assertEqual(function(values[0], **named_by(words[1:], values[1:])), answer)
+                if function.__name__ not in SOME_NONE:
+                    self.assertIs(type(answer), KINDS.get(function.__name__, tuple))
+        for name, answers in SOME_NONE.items():
+            function, words = [row for row in CALLS if row[0].__name__ == name][0]
+            found = [function(*arguments_with(words, good)) for good in (GOOD, OTHER_GOOD)]
+            self.assertEqual(found, answers)
 
     def test_all_functions_are_here(self):
         self.assertEqual({name for rows in MODULES.values() for words in rows.values() for name in words.split()},
                          set(GOOD))
-        self.assertEqual([len(rows) for rows in MODULES.values()], [7, 6, 10, 6, 6])
+        self.assertEqual([len(rows) for rows in MODULES.values()], [7, 6, 10, 6, 6, 8, 5, 5])
 
     def test_ends_of_the_ranges(self):
-        greatest = {"thing": 4, "other": 4, "place": 4, "other_place": 4, "many": 5}
+        ends = {"thing": (0, 4), "other": (0, 4), "place": (0, 4), "other_place": (0, 4), "many": (0, 5),
+                "many_things": (1, 60)}
         for function, words in CALLS:
-            for word in [word for word in words if word in greatest]:
-                for end in (0, greatest[word]):
+            for word in [word for word in words if word in ends]:
+                for end in ends[word]:
                     values = arguments_with(words, {word: end})
-                    if word != "other" or end != GOOD["thing"]:
+                    if function is changes.told_ahead and (word, end) == ("thing", 4):
+                        # The only one of these calls that asks for what there is not.
+                        self.assert_due(function, words, values, NoForest)
+                    elif word != "other" or end != GOOD["thing"]:
                         function(*values)
 
     def test_ends_of_the_indexes(self):
@@ -160,7 +210,8 @@ class Arguments(Cases):
         least_bad = {"thing": 2, "other": 2, "place": 2, "other_place": 2, "many": 3, "index": 1, "turned": 1,
                      "sequence": [0, 1, 2], "stages": [(0,), (1, 2)], "ends": [2]}
         good = {"forest": (None, 0), "thing": 0, "other": 1, "place": 0, "other_place": 1, "many": 2, "index": 0,
-                "turned": 0, "sequence": [0, 1], "stages": [(0,), (1,)], "ends": [1], "value": [0, 1]}
+                "turned": 0, "sequence": [0, 1], "stages": [(0,), (1,)], "ends": [1], "value": [0, 1],
+                "told": [[0], [0]]}
         for function, words in CALLS:
             function(*arguments_with(words, good))
             for word in [word for word in words if word in least_bad]:
@@ -171,7 +222,10 @@ class Arguments(Cases):
         some = {"forest": [FOREST, None, (1, 0), list(FOREST)], "thing": [3, 5, True], "other": [1, -1, "1"],
                 "many": [5, 6, False], "place": [4, 5, None], "other_place": [0, 5, (0,)], "index": [2, -1, 15, "2"],
                 "sequence": [GOOD["sequence"], None, [1, 0, 2, 3, 4]], "stages": [GOOD["stages"], [()], None],
-                "ends": [GOOD["ends"], (3, 2), [3, 3]], "turned": [2, 7, True, None], "value": [GOOD["value"]]}
+                "ends": [GOOD["ends"], (3, 2), [3, 3]], "turned": [2, 7, True, None], "value": [GOOD["value"]],
+                "other_forest": [FOREST, None, (1, 0), [None]], "counts": [GOOD["counts"], None, [], [1, True]],
+                "many_things": [5, 0, 61, True], "sizes": [GOOD["sizes"], [0], None],
+                "told": [GOOD["told"], None, [[]], [[0, 1], [0]]]}
         for function, words in CALLS:
             for values in product(*[some[word] for word in words]):
                 wrong = [word for word, value in zip(words, values) if value is not some[word][0]]
@@ -186,6 +240,7 @@ class Arguments(Cases):
 
 class Conditions(Cases):
     def test_same_thing(self):
+        self.assertEqual(sum("other" in words for _, words in CALLS), 5)
         for function, words in CALLS:
             if "other" in words:
                 for thing in range(5):
@@ -203,14 +258,47 @@ class Conditions(Cases):
         words = ["forest", "thing", "place", "other", "other_place"]
         cases = [({"other": True}, InvalidThing), ({"place": 5}, InvalidPlace), ({"other_place": -1}, InvalidPlace),
                  ({"forest": ()}, InvalidForest), ({"forest": (None,)}, InvalidThing)]
-        for changes, kind in cases:
-            values = arguments_with(words, {"thing": 1, "other": 1, **changes})
+        for changed, kind in cases:
+            values = arguments_with(words, {"thing": 1, "other": 1, **changed})
             self.assert_due(shares.places_share, words, values, kind)
-        for function in (shares.ahead_share, shares.next_to_share, shares.mean_distance):
+        for function in (shares.ahead_share, shares.next_to_share, shares.mean_distance, changes.told_ahead):
             for values, kind in [([FOREST, 5, 5], InvalidThing), ([FOREST, True, True], InvalidThing),
                                  ([FOREST, 1, True], InvalidThing), ([FOREST, 0, 0.0], InvalidThing),
                                  ([None, 1, 1], InvalidForest)]:
                 self.assert_due(function, ["forest", "thing", "other"], values, kind)
+
+    def test_no_forest_comes_last(self):
+        words = ["forest", "thing", "other"]
+        for thing, other in [(4, 1), (4, 3), (2, 3)]:
+            self.assert_due(changes.told_ahead, words, [FOREST, thing, other], NoForest)
+            self.assert_due(changes.told_ahead, words, [FOREST, other, other], SameThing)
+            self.assert_due(changes.told_ahead, words, [list(FOREST), thing, other], InvalidForest)
+            for wrong in NO_INDEX + [5]:
+                self.assert_due(changes.told_ahead, words, [FOREST, wrong, other], InvalidThing)
+                self.assert_due(changes.told_ahead, words, [FOREST, thing, wrong], InvalidThing)
+                self.assert_due(changes.told_ahead, words, [FOREST, wrong, wrong], InvalidThing)
+        for thing, other in [(1, 4), (0, 3), (3, 0), (3, 2)]:
+            changes.told_ahead(FOREST, thing, other)
+
+    def test_only_thing_comes_last(self):
+        words = ["forest", "thing"]
+        self.assert_due(changes.without, words, [(None,), 0], OnlyThing)
+        for wrong in NO_INDEX + [1]:
+            self.assert_due(changes.without, words, [(None,), wrong], InvalidThing)
+        self.assert_due(changes.without, words, [[None], 0], InvalidForest)
+        self.assert_due(changes.without, words, [(0,), 0], InvalidForest)
+        self.assertEqual(changes.without((None, None), 0), (None,))
+
+    def test_counts_ahead_of_many(self):
+        words = ["counts", "many_things"]
+        for counts in ([], None, (1,), [True]):
+            for many in (5, 0, 61, None, True, "5"):
+                self.assert_due(alike.sizes_back, words, [counts, many], InvalidCounts)
+        # Where the answer would be None, a wrong number is an error all the same.
+        for counts in ([0], [1, 0], [2, 2], [1, -1]):
+            for many in (0, 61, True, None, "5"):
+                self.assert_due(alike.sizes_back, words, [counts, many], InvalidNumber)
+            self.assertIs(alike.sizes_back(counts, 60), None)
 
     def test_no_sequence(self):
         for faulty in ([(1,)], [(3, 4)], [(0,), (3,)], [(0, 3)], [(1,), (0,)], [(4,), (1, 2, 3), (0,)]):
@@ -236,9 +324,12 @@ class Values(Cases):
                     # With several things and several indexes.
                     values = arguments_with(words, {"thing": number, "index": number % 3})
                     first = function(*values)
-                    kept = list(first)
+                    kept = deepcopy(first)
                     second = function(*values)
                     self.assertIsNot(first, second)
+                    for inner in first:
+                        if isinstance(inner, list):
+                            inner.append("more")
                     first.append("more")
                     first.reverse()
                     self.assertEqual(second, kept)
@@ -274,7 +365,7 @@ class Values(Cases):
             forests.walk(wrong)
         self.assertEqual(wrong, [None, 0, [0]])
         for function, words in CALLS:
-            for word in [word for word in words if word in ("sequence", "stages", "ends")]:
+            for word in [word for word in words if word in LIST_WORDS]:
                 for value in [value for value in BAD[word] if isinstance(value, list)]:
                     kept = list(value)
                     with self.assertRaises(RAISED[word]):
