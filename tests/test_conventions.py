@@ -5,26 +5,32 @@ from copy import deepcopy
 from functools import wraps
 from itertools import product
 
-from heldbehind import alike, changes, errors, forests, sequences, shares, stages, told, turned
-from heldbehind.errors import (HolderError, InvalidCounts, InvalidEnds, InvalidForest, InvalidIndex, InvalidNumber,
-                               InvalidPlace, InvalidSequence, InvalidSizes, InvalidStages, InvalidThing, InvalidTold,
-                               NoForest, NoSequence, OnlyThing, SameThing)
+from heldbehind import alike, changes, forests, sequences, shares, stages, texts, told, turned
+from heldbehind.errors import (InvalidCounts, InvalidEnds, InvalidForest, InvalidIndex, InvalidNumber,
+                               InvalidPlace, InvalidSequence, InvalidSizes, InvalidStages, InvalidText, InvalidThing,
+                               InvalidTold, NoForest, NoSequence, OnlyThing, SameThing)
+from wrong import (Cases, FOREST, NO_COUNTS, NO_ENDS, NO_FOREST, NO_FOREST_TEXT, NO_INDEX, NO_SEQUENCE,
+                   NO_SEQUENCE_TEXT, NO_SIZES, NO_STAGES, NO_STAGES_TEXT, NO_TOLD)
 
-FOREST = (None, 0, 0, 1, None)
 # Where a parameter is not called by the kind of its values.
-CALLED = {"other_forest": "other", "many_things": "many"}
+CALLED = {"other_forest": "other", "many_things": "many", "order": "sequence", "free_stages": "stages",
+          "forest_text": "text", "sequence_text": "text", "stages_text": "text"}
 RAISED = {"forest": InvalidForest, "thing": InvalidThing, "other": InvalidThing, "many": InvalidNumber,
           "place": InvalidPlace, "other_place": InvalidPlace, "index": InvalidIndex, "sequence": InvalidSequence,
           "stages": InvalidStages, "ends": InvalidEnds, "turned": InvalidNumber, "other_forest": InvalidForest,
-          "counts": InvalidCounts, "many_things": InvalidNumber, "sizes": InvalidSizes, "told": InvalidTold}
+          "counts": InvalidCounts, "many_things": InvalidNumber, "sizes": InvalidSizes, "told": InvalidTold,
+          "order": InvalidSequence, "free_stages": InvalidStages, "forest_text": InvalidText,
+          "sequence_text": InvalidText, "stages_text": InvalidText}
 GOOD = {"forest": FOREST, "thing": 3, "other": 1, "many": 5, "place": 4, "other_place": 0, "index": 2,
         "sequence": [0, 4, 1, 3, 2], "value": [0, 4, 1, 3, 2], "stages": [(0, 4), (1,)], "ends": [3, 2], "turned": 2,
         "other_forest": (None, None, 1, 1, 3), "counts": [1, 2, 3, 3, 3, 2, 1], "many_things": 5,
-        "sizes": [1, 1, 1, 2, 3], "told": [[0, 1, 2], [0, 2, 1]]}
+        "sizes": [1, 1, 1, 2, 3], "told": [[0, 1, 2], [0, 2, 1]], "order": [2, 0, 1], "free_stages": [(0, 4), (59,)],
+        "forest_text": "- 0 0 1 -", "sequence_text": "2 > 0 > 1", "stages_text": "0 4 | 59"}
 OTHER_GOOD = {"forest": (1, None, 1, 1, 2), "thing": 4, "other": 1, "many": 5, "place": 4, "other_place": 0, "index": 2,
               "sequence": [1, 0, 2, 3, 4], "value": [1, 0, 2, 3, 4], "stages": [(1,), (0, 2)], "ends": [4, 3],
               "turned": 2, "other_forest": (None, 0), "counts": [1, 2, 2, 1], "many_things": 3,
-              "sizes": [2, 3, 1, 1, 1], "told": [[1, 0, 2], [1, 0, 2]]}
+              "sizes": [2, 3, 1, 1, 1], "told": [[1, 0, 2], [1, 0, 2]], "order": [0], "free_stages": [],
+              "forest_text": "1 - 1", "sequence_text": "0", "stages_text": ""}
 
 
 @wraps(sequences.sequences)
@@ -70,82 +76,53 @@ MODULES = {
         "beside": "forest other_forest", "grafted": "forest thing other_forest", "part": "forest thing",
         "without": "forest thing", "told_ahead": "forest thing other",
     },
+    texts: {
+        "format_forest": "forest", "format_sequence": "order", "format_stages": "free_stages",
+        "parse_forest": "forest_text", "parse_sequence": "sequence_text", "parse_stages": "stages_text",
+    },
 }
 CALLS = [(all_of if name == "sequences" else getattr(module, name), words.split())
          for module, rows in MODULES.items() for name, words in rows.items()]
 LISTS = """sizes depths firsts walk above below held_by place_shares sure_pairs nth_sequence next_sequence sequences
-nth_with next_shares turned_counts nth_by_turned sizes_back shapes_with always_ahead""".split()
+nth_with next_shares turned_counts nth_by_turned sizes_back shapes_with always_ahead
+parse_sequence parse_stages""".split()
 INTEGERS = """count_sequences sequence_index count_with last_count turned_pairs drop_sum most_turned
 turned_index count_shapes count_forests""".split()
 KINDS = {**{name: list for name in LISTS}, **{name: int for name in INTEGERS}, "is_sequence": bool,
-         "stage_fault": type(None), "are_alike": bool, "same_number": bool}
+         "stage_fault": type(None), "are_alike": bool, "same_number": bool,
+         "format_forest": str, "format_sequence": str, "format_stages": str}
 # What is returned for GOOD and for OTHER_GOOD where None is among it.
 SOME_NONE = {"parting_size": [None, 1], "told_ahead": [None, None]}
-LIST_WORDS = ["sequence", "stages", "ends", "counts", "sizes", "told"]
+LIST_WORDS = ["sequence", "stages", "ends", "counts", "sizes", "told", "order", "free_stages"]
 # How many indexes there are with the other arguments of GOOD.
 INDEXES = {"nth_sequence": 15, "nth_with": 4, "nth_by_turned": 3, "nth_forest": 4}
 
-NO_INDEX = [None, True, False, -1, -5, 10 ** 99, -10 ** 99, "", "3", b"3", 1.0, [], [3], (), (3,), {}, {3: 3}, {3},
-            object(), FOREST]
-NO_FOREST = [None, True, False, 0, 7, "", "- 0 0", b"-", 0.5, [], list(FOREST), {}, dict(enumerate(FOREST)), {None},
-             object(), (), (0,), (1, 0), (None, 1), (None, 0, 2, 0, 0), (None, 2, 3, 1, 0), (1, 2, 3, 4, 0), (None, -1),
-             (None, 0, 0, 1, -1), (None, 0, 0, 1, 5), (None, 0, 0, 1, 10 ** 99), (None, False, 0, 1, None),
-             (None, 0, 0, True, None), (None, "0"), (None, 0.0), (None, (0,)), ("-", "0"), [None, 0, 0, 1, None]]
-NO_LIST = [None, True, False, 0, 3, -1, 10 ** 99, "", "0", "01234", "0 > 1", b"\x00\x01", 1.0, (), {}, {0: 1}, {0, 4},
-           range(5), object(), FOREST]
-NO_SEQUENCE = NO_LIST + [(0, 4, 1, 3, 2), [], [0], [0, 4, 1, 3], [0, 4, 1, 3, 2, 2], [0, 4, 1, 3, 2, 5],
-                         [0, 4, 1, 3, 3], [0, 0, 1, 3, 2], [1, 0, 2, 3, 4], [0, 3, 1, 2, 4], [4, 2, 0, 1, 3],
-                         [0, True, 2, 3, 4], [False, 1, 2, 3, 4], [0, 1.0, 2, 3, 4], [0, 1, 2, 3, "4"],
-                         [0, 1, 2, 3, None], [0, 1, 2, 3, 5], [0, 1, 2, 3, -1], [0, 1, 2, 3, 10 ** 99],
-                         [0, 1, 2, 3, [4]], [[0, 1, 2, 3, 4]], [(0, 1, 2, 3, 4)], [0, 1, 2, {}, 4]]
-NO_STAGES = NO_LIST + [((0, 4), (1,)), (0, 4), [[0, 4], [1]], [(0, 4), [1]], [[0], (4,)], [()], [(0,), ()], [(), (0,)],
-                       [(4, 0)], [(0,), (2, 1)], [(0, 0)], [(0, 2, 1)], [(0,), (0,)], [(0, 4), (1, 4)],
-                       [(0,), (1,), (0, 2)], [(5,)], [(0, 5)], [(-1,)], [(-1, 0)], [(10 ** 99,)], [(True,)],
-                       [(False,)], [(0, True)], [(False, 1)], [(0, None)], [(None,)], [("0",)], ["0"], [0], [None],
-                       [0, 4], [(0.0,)], [(0, 1.0)], [{0}], [{0: 4}], [((0,),)], [([0],)], [(0, {})], [range(2)],
-                       [(0, 1, 2, 3, 4, 5)], [(0,), True], [(0, "1")], [(0, object())]]
-NO_ENDS = NO_LIST + [(3, 2), (3,), [3, 3], [3, 2, 3], [5], [3, 5], [-1], [3, -1], [10 ** 99], [True], [False],
-                     [3, True], [0, False], ["3"], [3.0], [None], [(3,)], [[3]], [{}], [3, {3}], [object()],
-                     [0, 1, 2, 3, 4, 5], [0, 1, 2, 3, 4, 0]]
-NO_COUNTS = NO_LIST + [[], [None], [True], [False], [1, True], [1, 2, 3, 3, 3, 2, False], [1.0], ["1"], [1, "2"], [[1]],
-                       [(1,)], [1, None], [{}], [1, 2, 3, 3, 3, 2, [1]], (1, 2, 3, 3, 3, 2, 1), [object()]]
-NO_SIZES = NO_COUNTS + [[0], [2], [-1], [1, 3], [0, 1], [1, 1, 1, 2, 6], [1, 1, 1, 0, 3], [10 ** 99], [1, 10 ** 99],
-                        [1, 1, 1, 2, -3], (1, 1, 1, 2, 3)]
-NO_TOLD = NO_LIST + [([0, 1, 2], [0, 2, 1]), [(0, 1, 2), (0, 2, 1)], [], [[]], [[], []], [()], [[0], []], [[0, 1], [0]],
-                     [[0, 1, 2], [0, 1]], [[0, 1, 2], [0, 1, 2, 3]], [[0, 0]], [[0, 1, 1]], [[0, 2]], [[1, 2, 3]],
-                     [[-1, 0, 1]], [[0, 1, 2], [0, 1, 3]], [[0, 1, 10 ** 99]], [[True, 0]], [[False, 1]],
-                     [[0, True, 2]], [[0, 1.0, 2]], [[0, "1", 2]], [[0, None]], [["0"]], ["0"], [0, 1, 2], [None],
-                     [[0, 1, 2], None],
-                     [[0, 1, 2], (0, 2, 1)], [[0, 1, 2], True], [[0, 1, 2], {0: 0, 1: 1, 2: 2}], [[[0]]], [[(0,)]],
-                     [{0, 1}], [range(3)], [[0, {}, 2]]]
+# What is wrong without a forest.
+ORDERS = [[0], [1, 0, 2, 3, 4], [0, 3, 1, 2, 4], [4, 2, 0, 1, 3], [0, 4, 1, 3, 2, 5]]
+NO_ORDER = [value for value in NO_SEQUENCE if value not in ORDERS] + [[1], [0, 2], [2, 0, 3], [0, 1, 1]]
+NO_FREE_STAGES = [value for value in NO_STAGES if value not in ([(5,)], [(0, 5)], [(0, 1, 2, 3, 4, 5)])]
+NO_FREE_STAGES += [[(60,)], [(0, 60)], [(59, 60)], [(0,), (60,)], [(59,), (59,)]]
 BAD = {"forest": NO_FOREST, "other_forest": NO_FOREST, "counts": NO_COUNTS, "many_things": NO_INDEX + [0, 61, 62, 300],
        "sizes": NO_SIZES, "told": NO_TOLD, "thing": NO_INDEX + [5, 6], "other": NO_INDEX + [5, 6],
        "many": NO_INDEX + [6, 7], "place": NO_INDEX + [5, 6], "other_place": NO_INDEX + [5, 6],
        "index": NO_INDEX + [15, 16],
-       "turned": NO_INDEX + [7, 8], "sequence": NO_SEQUENCE, "stages": NO_STAGES, "ends": NO_ENDS}
+       "turned": NO_INDEX + [7, 8], "sequence": NO_SEQUENCE, "stages": NO_STAGES, "ends": NO_ENDS, "order": NO_ORDER,
+       "free_stages": NO_FREE_STAGES, "forest_text": NO_FOREST_TEXT, "sequence_text": NO_SEQUENCE_TEXT,
+       "stages_text": NO_STAGES_TEXT}
 
 
 def arguments_with(words, changed):
     return [changed.get(word, GOOD[word]) for word in words]
 
 
+def called(words):
+    """The names of the parameters."""
+    return [CALLED.get(word, word) for word in words]
+
+
 def named_by(words, values):
     """The arguments by the names of their parameters, the last one first."""
-    return dict([(CALLED.get(word, word), value) for word, value in zip(words, values)][::-1])
-
-
-class Cases(unittest.TestCase):
-    def assert_due(self, function, words, values, kind):
-        """The error is raised by position, by name, and by both, and it is of no other kind."""
-        for by_position in range(len(words) + 1):
-            named = named_by(words[by_position:], values[by_position:])
-            with self.assertRaises(HolderError) as caught:
-                function(*values[:by_position], **named)
-            self.assertIs(type(caught.exception), kind, (function.__name__, values))
-            self.assertIsInstance(caught.exception, ValueError)
-        for name, other in vars(errors).items():
-            if isinstance(other, type) and other not in (kind, HolderError):
-                self.assertNotIsInstance(caught.exception, other, name)
+    return dict(list(zip(called(words), values))[::-1])
 
 
 class Arguments(Cases):
@@ -166,7 +143,7 @@ class Arguments(Cases):
     def test_all_functions_are_here(self):
         self.assertEqual({name for rows in MODULES.values() for words in rows.values() for name in words.split()},
                          set(GOOD))
-        self.assertEqual([len(rows) for rows in MODULES.values()], [7, 6, 10, 6, 6, 8, 5, 5])
+        self.assertEqual([len(rows) for rows in MODULES.values()], [7, 6, 10, 6, 6, 8, 5, 5, 6])
 
     def test_ends_of_the_ranges(self):
         ends = {"thing": (0, 4), "other": (0, 4), "place": (0, 4), "other_place": (0, 4), "many": (0, 5),
@@ -177,7 +154,7 @@ class Arguments(Cases):
                     values = arguments_with(words, {word: end})
                     if function is changes.told_ahead and (word, end) == ("thing", 4):
                         # The only one of these calls that asks for what there is not.
-                        self.assert_due(function, words, values, NoForest)
+                        self.assert_due(function, called(words), values, NoForest)
                     elif word != "other" or end != GOOD["thing"]:
                         function(*values)
 
@@ -188,7 +165,7 @@ class Arguments(Cases):
                 for index in range(many):
                     function(*arguments_with(words, {"index": index}))
                 for index in (-1, many, many + 1):
-                    self.assert_due(function, words, arguments_with(words, {"index": index}), InvalidIndex)
+                    self.assert_due(function, called(words), arguments_with(words, {"index": index}), InvalidIndex)
         words = ["forest", "turned", "index"]
         for number, many in enumerate([1, 2, 3, 3, 3, 2, 1]):
             turned.nth_by_turned(FOREST, number, many - 1)
@@ -198,7 +175,7 @@ class Arguments(Cases):
         for function, words in CALLS:
             for word in [word for word in words if word != "value"]:
                 for value in BAD[word]:
-                    self.assert_due(function, words, arguments_with(words, {word: value}), RAISED[word])
+                    self.assert_due(function, called(words), arguments_with(words, {word: value}), RAISED[word])
 
     def test_any_value_is_a_sequence_or_not(self):
         for value in NO_SEQUENCE:
@@ -216,7 +193,7 @@ class Arguments(Cases):
             function(*arguments_with(words, good))
             for word in [word for word in words if word in least_bad]:
                 values = arguments_with(words, {**good, word: least_bad[word]})
-                self.assert_due(function, words, values, RAISED[word])
+                self.assert_due(function, called(words), values, RAISED[word])
 
     def test_several_wrong_arguments(self):
         some = {"forest": [FOREST, None, (1, 0), list(FOREST)], "thing": [3, 5, True], "other": [1, -1, "1"],
@@ -225,12 +202,15 @@ class Arguments(Cases):
                 "ends": [GOOD["ends"], (3, 2), [3, 3]], "turned": [2, 7, True, None], "value": [GOOD["value"]],
                 "other_forest": [FOREST, None, (1, 0), [None]], "counts": [GOOD["counts"], None, [], [1, True]],
                 "many_things": [5, 0, 61, True], "sizes": [GOOD["sizes"], [0], None],
-                "told": [GOOD["told"], None, [[]], [[0, 1], [0]]]}
+                "told": [GOOD["told"], None, [[]], [[0, 1], [0]]],
+                "order": [GOOD["order"], [1, 2], None], "free_stages": [GOOD["free_stages"], [()], None],
+                "forest_text": [GOOD["forest_text"], "0", None], "sequence_text": [GOOD["sequence_text"], "1", None],
+                "stages_text": [GOOD["stages_text"], "4 0", None]}
         for function, words in CALLS:
             for values in product(*[some[word] for word in words]):
                 wrong = [word for word, value in zip(words, values) if value is not some[word][0]]
                 if wrong:
-                    self.assert_due(function, words, list(values), RAISED[wrong[0]])
+                    self.assert_due(function, called(words), list(values), RAISED[wrong[0]])
 
     def test_any_value_comes_behind_the_forest(self):
         for forest in NO_FOREST:
@@ -245,7 +225,7 @@ class Conditions(Cases):
             if "other" in words:
                 for thing in range(5):
                     same = arguments_with(words, {"thing": thing, "other": thing})
-                    self.assert_due(function, words, same, SameThing)
+                    self.assert_due(function, called(words), same, SameThing)
         words = ["forest", "thing", "place", "other", "other_place"]
         same_places = arguments_with(words, {"thing": 1, "place": 0})
         self.assert_due(shares.places_share, words, same_places, SameThing)
@@ -290,7 +270,7 @@ class Conditions(Cases):
         self.assertEqual(changes.without((None, None), 0), (None,))
 
     def test_counts_ahead_of_many(self):
-        words = ["counts", "many_things"]
+        words = ["counts", "many"]
         for counts in ([], None, (1,), [True]):
             for many in (5, 0, 61, None, True, "5"):
                 self.assert_due(alike.sizes_back, words, [counts, many], InvalidCounts)

@@ -8,7 +8,9 @@ import unittest
 PACKAGE = os.path.join(os.path.dirname(os.path.dirname(os.path.abspath(__file__))), "heldbehind")
 LIBRARY = {"math": {"gcd", "lcm", "isqrt", "comb", "perm", "factorial"}}
 BUILTINS = set("""len range enumerate zip min max sum abs sorted reversed int str bool list tuple dict set isinstance
-any all divmod ValueError super repr map ord""".split())
+any all divmod ValueError super repr map ord property classmethod staticmethod""".split())
+DECORATORS = {"property", "classmethod", "staticmethod"}
+DOUBLE = {"__init__", "__call__", "__add__", "__mul__", "__eq__", "__len__", "__contains__"}
 METHODS = set("""append clear copy count endswith extend find get index insert isalnum isalpha isdigit islower isspace
 isupper items join keys ljust lower lstrip partition pop remove replace reverse rfind rjust rpartition rsplit rstrip
 setdefault split splitlines startswith strip update upper values zfill bit_length add discard""".split())
@@ -84,6 +86,43 @@ class Language(unittest.TestCase):
         for name, node in nodes():
             if isinstance(node, ast.Call) and isinstance(node.func, ast.Attribute):
                 self.assertIn(node.func.attr, METHODS | own, (name, node.lineno))
+
+    def test_decorators_and_operators(self):
+        for name, node in nodes():
+            if isinstance(node, ast.FunctionDef):
+                self.assertLessEqual({decorator.id for decorator in node.decorator_list}, DECORATORS, (name, node.name))
+                if node.name.startswith("__"):
+                    self.assertIn(node.name, DOUBLE, name)
+            if isinstance(node, ast.ClassDef):
+                self.assertEqual([node.decorator_list, node.keywords], [[], []])
+
+    def test_methods_and_attributes(self):
+        # A name is a method, a property, a class value or an attribute, and the same in all classes.
+        methods = {inner.name for _, node in nodes() if isinstance(node, ast.ClassDef)
+                   for inner in node.body if isinstance(inner, ast.FunctionDef)}
+        stored = {node.attr for _, node in nodes() if isinstance(node, ast.Attribute)
+                  and isinstance(node.ctx, ast.Store)}
+        self.assertEqual(methods & stored, set())
+        # The attribute of TooMany is one of those that may have the name of a method of Python's own.
+        for known in (int, str, list, dict, tuple, set, bytes):
+            self.assertEqual({name for name in methods | stored if hasattr(known, name)} - DOUBLE - {"count"}, set())
+
+    def test_no_error_of_python_is_caught(self):
+        for name, node in nodes():
+            if isinstance(node, ast.Try):
+                self.assertEqual([node.handlers, node.orelse], [[], []], (name, node.lineno))
+                self.assertTrue(all(isinstance(one, ast.Assign) for one in node.finalbody))
+
+    def test_errors_are_created_where_they_are_raised(self):
+        for name, node in nodes():
+            if isinstance(node, ast.Raise):
+                self.assertIsInstance(node.exc, ast.Call, (name, node.lineno))
+                self.assertIsNone(node.cause)
+
+    def test_sets_are_not_kept(self):
+        for name, node in nodes():
+            if isinstance(node, (ast.Assign, ast.Return)):
+                self.assertNotIsInstance(node.value, (ast.Set, ast.SetComp), (name, node.lineno))
 
     def test_comparisons_by_is(self):
         for name, node in nodes():
